@@ -1,0 +1,44 @@
+// Package flows: programs with levels of secrecy, and proofs: see DOC.md.
+package flows
+
+import (
+	"flows/api"
+	"flows/machine"
+	"flows/program"
+)
+
+// Run runs a program (P7).
+func Run(s string, cells []uint32, fuel int) (api.Ended, error) {
+	p, err := program.Read(s)
+	if err != nil {
+		return api.Ended{}, err
+	}
+	if len(cells) != len(p.Cells) {
+		return api.Ended{}, api.ErrCells
+	}
+	return machine.Run(p, cells, fuel), nil
+}
+
+// Decode tells the proof that bytes are (P9).
+func Decode(b []byte) (api.Proof, error) { return api.Proof{}, nil }
+
+// Encode tells a proof's bytes (P9).
+func Encode(p api.Proof) ([]byte, error) { return nil, nil }
+
+// Text tells a proof's bytes as a text (P10).
+func Text(b []byte) (string, error) { return "", nil }
+
+// Bytes tells the bytes of a proof's text (P10).
+func Bytes(s string) ([]byte, error) { return nil, nil }
+
+// Check tells whether bytes prove a program (P12): as yet only a program's fault (P5).
+func Check(s string, b []byte) error {
+	_, err := program.Read(s)
+	return err
+}
+
+// Infer finds a proof (P13): as yet it tells only a program's fault (P5).
+func Infer(s string) ([]byte, error) {
+	_, err := program.Read(s)
+	return nil, err
+}
