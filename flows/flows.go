@@ -5,6 +5,7 @@ import (
 	"flows/api"
 	"flows/machine"
 	"flows/program"
+	"flows/proof"
 )
 
 // Run runs a program (P7).
@@ -20,16 +21,28 @@ func Run(s string, cells []uint32, fuel int) (api.Ended, error) {
 }
 
 // Decode tells the proof that bytes are (P9).
-func Decode(b []byte) (api.Proof, error) { return api.Proof{}, nil }
+func Decode(b []byte) (api.Proof, error) { return proof.Decode(b) }
 
 // Encode tells a proof's bytes (P9).
-func Encode(p api.Proof) ([]byte, error) { return nil, nil }
+func Encode(p api.Proof) ([]byte, error) { return proof.Encode(p) }
 
 // Text tells a proof's bytes as a text (P10).
-func Text(b []byte) (string, error) { return "", nil }
+func Text(b []byte) (string, error) {
+	p, err := proof.Decode(b)
+	if err != nil {
+		return "", err
+	}
+	return proof.Text(p), nil
+}
 
 // Bytes tells the bytes of a proof's text (P10).
-func Bytes(s string) ([]byte, error) { return nil, nil }
+func Bytes(s string) ([]byte, error) {
+	p, err := proof.Read(s)
+	if err != nil {
+		return nil, err
+	}
+	return proof.Encode(p)
+}
 
 // Check tells whether bytes prove a program (P12): as yet only a program's fault (P5).
 func Check(s string, b []byte) error {

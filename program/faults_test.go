@@ -79,7 +79,7 @@ func TestSyntax(t *testing.T) {
 		"channel", "channel x", "channel x a a", "channel 1 a", "channel x 1",
 		"begin a", "begin ", " begin",
 		"set", "set x", "set 1 1", "set x +", "set x 1 +", "set x 1 2", "set x 1 + 2 3", "set x + 1 2", "set x 1 / 2", "set x 1 = 2", "set x 1 <= 2", "set x 1 > 2", "set x 1+2", "set x 1 === 2", "set x 1 +  2", "set x 1 + 2 + 3",
-		"set x -1", "set x +1", "set x 01", "set x 00", "set x 1234567890", "set x 0000000001", "set x 1a", "set x 0x1", "set x toolong", "set x A", "set x 1 + 01", "set x 1 + -1", "set x \u0661", "set x 1.0",
+		"set x -1", "set x +1", "set x 01", "set x 00", "set x 1234567890", "set x 1000000000", "set x 0000000001", "set x 1a", "set x 0x1", "set x toolong", "set x A", "set x 1 + 01", "set x 1 + -1", "set x \u0661", "set x 1.0",
 		"out", "out c", "out 1 1", "out c 1 1", "out c 1 + 1", "out c 01", "out toolong 1",
 		"if", "if 1 1", "if 1 + 1", "if 01", "if X", "while", "while 1 1", "while 1 + 1", "while 00", "while X",
 		"else 1", "else ", "end 1", "end ", "end if", "else if 1",

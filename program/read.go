@@ -1,11 +1,10 @@
 package program
 
 import (
-	"strings"
-
 	"flows/api"
 	"flows/fault"
 	"flows/levels"
+	"flows/lines"
 )
 
 // reader is how far the reading of a program has come.
@@ -67,18 +66,17 @@ func Read(s string) (*Program, error) {
 	return r.program, nil
 }
 
-// text reads line by line. The empty text has a line, too: one that is not ended.
+// text reads line by line, and then looks at what must have been there by the line behind the last one.
 func (r *reader) text(s string) {
 	if len(s) > api.MaxText {
 		fault.Raise(api.ErrLong, 0)
 	}
 	rules := lineRules()
-	for r.line = 1; r.line == 1 || s != ""; r.line++ {
-		line, rest, ended := strings.Cut(s, "\n")
-		r.need(ended, api.ErrSyntax)
-		r.oneLine(rules, strings.Split(line, " "))
-		s = rest
-	}
+	count := lines.Each(s, func(line int, words []string) {
+		r.line = line
+		r.oneLine(rules, words)
+	})
+	r.line = count + 1
 	r.need(r.begun && len(r.open) == 0, api.ErrPlace)
 }
 

@@ -1,9 +1,12 @@
 package program
 
-import "flows/api"
+import (
+	"flows/api"
+	"flows/lines"
+)
 
-// maxDigits: how many digits a number of a program may have.
-const maxDigits = 9
+// maxNumber: a number of a program has at most nine digits.
+const maxNumber = 999999999
 
 // isName tells whether a word is a name.
 func isName(word string) bool {
@@ -16,19 +19,7 @@ func isName(word string) bool {
 }
 
 // number tells the number that a word is, or false if it is none.
-func number(word string) (int, bool) {
-	if word == "" || len(word) > maxDigits || word[0] == '0' && word != "0" {
-		return 0, false
-	}
-	n := 0
-	for _, digit := range word {
-		if digit < '0' || digit > '9' {
-			return 0, false
-		}
-		n = 10*n + int(digit-'0')
-	}
-	return n, true
-}
+func number(word string) (int, bool) { return lines.Number(word, maxNumber) }
 
 // operation tells the number of the operation that a word is, or false if it is none.
 func operation(word string) (int, bool) {
