@@ -3,6 +3,7 @@ package flows
 
 import (
 	"flows/api"
+	"flows/check"
 	"flows/machine"
 	"flows/program"
 	"flows/proof"
@@ -44,10 +45,17 @@ func Bytes(s string) ([]byte, error) {
 	return proof.Encode(p)
 }
 
-// Check tells whether bytes prove a program (P12): as yet only a program's fault (P5).
+// Check tells whether bytes prove a program (P12).
 func Check(s string, b []byte) error {
-	_, err := program.Read(s)
-	return err
+	p, err := program.Read(s)
+	if err != nil {
+		return err
+	}
+	given, err := proof.Decode(b)
+	if err != nil {
+		return err
+	}
+	return check.Proof(p, given)
 }
 
 // Infer finds a proof (P13): as yet it tells only a program's fault (P5).

@@ -108,8 +108,8 @@ func (l *Lattice) findLowest() {
 	}
 }
 
-// Count tells how many levels there are.
-func (l *Lattice) Count() int { return l.count }
+// Has tells whether there is a level of that number.
+func (l *Lattice) Has(level int) bool { return 0 <= level && level < l.count }
 
 // AtOrBelow tells whether level a is at or below level b.
 func (l *Lattice) AtOrBelow(a, b int) bool { return l.under[a][b] }

@@ -93,8 +93,10 @@ func hold(t *testing.T, n int, below [][2]int) bool {
 	if !ok {
 		return false
 	}
-	if l.Count() != n {
-		t.Fatalf("P4: %d levels, want %d", l.Count(), n)
+	for level := -1; level <= api.MaxLevels; level++ {
+		if l.Has(level) != (0 <= level && level < n) {
+			t.Fatalf("P4: %d levels, level %d is there: %v", n, level, l.Has(level))
+		}
 	}
 	for a := range n {
 		if !r[l.Lowest()][a] {

@@ -2,6 +2,8 @@
 package program
 
 import (
+	"slices"
+
 	"flows/api"
 	"flows/levels"
 )
@@ -13,6 +15,7 @@ const (
 	Times
 	Less
 	Equal
+	Operations // how many there are
 )
 
 // Program is a program without a fault. Variables are numbered: cells first, then local variables.
@@ -40,16 +43,16 @@ type Stmt struct {
 	Else  []*Stmt // what stands behind else
 }
 
-// LevelOf tells the level of a value (P6), where local variables have the levels that are given.
-func (p *Program) LevelOf(v *Value, locals []int) int {
+// Variables tells the level of each variable, where local variables have the levels that are given.
+func (p *Program) Variables(locals []int) []int { return slices.Concat(p.Cells, locals) }
+
+// LevelOf tells the level of a value (P6), where variables have the levels that are given.
+func (p *Program) LevelOf(v *Value, variables []int) int {
 	switch v.Kind {
 	case api.Var:
-		if v.A < len(p.Cells) {
-			return p.Cells[v.A]
-		}
-		return locals[v.A-len(p.Cells)]
+		return variables[v.A]
 	case api.Op:
-		return p.Levels.Join(p.LevelOf(v.B, locals), p.LevelOf(v.C, locals))
+		return p.Levels.Join(p.LevelOf(v.B, variables), p.LevelOf(v.C, variables))
 	}
 	return p.Levels.Lowest()
 }

@@ -88,7 +88,7 @@ func TestLinesWordsAsNames(t *testing.T) {
 
 func TestNumbering(t *testing.T) {
 	p := read(t, "level top;level mid;level bot;channel y mid;below mid top;cell d bot;cell c top;channel x bot;below bot mid;cell b mid;begin;set z b;set w z + d;out x c;out y w;")
-	if p.Levels.Count() != 3 || p.Levels.Lowest() != 2 || !p.Levels.AtOrBelow(2, 0) || p.Levels.AtOrBelow(0, 1) {
+	if !p.Levels.Has(2) || p.Levels.Has(3) || p.Levels.Lowest() != 2 || !p.Levels.AtOrBelow(2, 0) || p.Levels.AtOrBelow(0, 1) {
 		t.Errorf("P4: levels are numbered in the order of the text: %v", p.Levels)
 	}
 	if len(p.Cells) != 3 || p.Cells[0] != 2 || p.Cells[1] != 0 || p.Cells[2] != 1 {
@@ -115,7 +115,7 @@ func TestLevelOf(t *testing.T) {
 		{[]int{0, 3}, []int{3, 1, 2, 3, 0, 3, 0, 1, 2, 3, 0, 0, 3}},
 	} {
 		for i, s := range p.Body[2:] {
-			if got := p.LevelOf(s.Value, c.locals); got != c.want[i] {
+			if got := p.LevelOf(s.Value, p.Variables(c.locals)); got != c.want[i] {
 				t.Errorf("P6: local variables of %v: %s is of level %d, want %d", c.locals, showValue(s.Value), got, c.want[i])
 			}
 		}
