@@ -4,6 +4,7 @@ package flows
 import (
 	"flows/api"
 	"flows/check"
+	"flows/infer"
 	"flows/machine"
 	"flows/program"
 	"flows/proof"
@@ -58,8 +59,15 @@ func Check(s string, b []byte) error {
 	return check.Proof(p, given)
 }
 
-// Infer finds a proof (P13): as yet it tells only a program's fault (P5).
+// Infer finds a proof of a program (P13).
 func Infer(s string) ([]byte, error) {
-	_, err := program.Read(s)
-	return nil, err
+	p, err := program.Read(s)
+	if err != nil {
+		return nil, err
+	}
+	found, err := infer.Proof(p)
+	if err != nil {
+		return nil, err
+	}
+	return proof.Encode(found)
 }

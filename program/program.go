@@ -37,6 +37,7 @@ type Value struct {
 // Stmt is a statement.
 type Stmt struct {
 	Kind  int // api.Set, api.Out, api.If or api.While
+	Line  int // where it stands in the text, from 1
 	A     int // the variable that is set, the channel of an out
 	Value *Value
 	First []*Stmt // what stands first in an if, what is within a while

@@ -1,6 +1,7 @@
 package program
 
 import (
+	"slices"
 	"strconv"
 	"strings"
 	"testing"
@@ -75,6 +76,24 @@ func TestEachKindOfLine(t *testing.T) {
 		if got := showAll(read(t, head+c.s).Body); got != c.want {
 			t.Errorf("P2: %q: %s, want %s", c.s, got, c.want)
 		}
+	}
+}
+
+// linesOf tells where statements stand, those within others behind them.
+func linesOf(stmts []*Stmt) []int {
+	var all []int
+	for _, s := range stmts {
+		all = append(all, s.Line)
+		all = append(all, linesOf(s.First)...)
+		all = append(all, linesOf(s.Else)...)
+	}
+	return all
+}
+
+func TestLinesOfStatements(t *testing.T) {
+	p := read(t, head+"set x 1;if a;out pub 1;while s;end;else;set s 1;end;out sec a;")
+	if got, want := linesOf(p.Body), []int{9, 10, 11, 12, 15, 17}; !slices.Equal(got, want) {
+		t.Errorf("P2: the statements stand in lines %v, want %v", got, want)
 	}
 }
 

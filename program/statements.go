@@ -50,6 +50,7 @@ func (r *reader) lastOpened() *opened {
 func (r *reader) add(stmt *Stmt) {
 	r.need(r.stmts < api.MaxStmts, api.ErrLimit)
 	r.stmts++
+	stmt.Line = r.line
 	part := &r.program.Body
 	if last := r.lastOpened(); last != nil {
 		part = &last.stmt.First

@@ -34,13 +34,13 @@ func allNumbers(all []int) bool {
 // firstWrong tells the first node that is wrong by itself or by those ahead of it; -1: there is none.
 func firstWrong(nodes []api.Node) int {
 	table := rules()
-	seen := once.None[content]()
+	seen := once.None[Content]()
 	for i := range nodes {
 		n := &nodes[i]
 		if !hasItsNumbers(&table, n) || !table[n.Kind].isBehind(n, i) {
 			return i
 		}
-		if _, isNew := seen.Number(contentOf(n)); !isNew {
+		if _, isNew := seen.Number(ContentOf(n)); !isNew {
 			return i
 		}
 	}

@@ -72,24 +72,24 @@ func (r *rule) isBehind(n *api.Node, number int) bool {
 // isNumber tells whether a proof may have this number.
 func isNumber(n int) bool { return 0 <= n && n <= maxNumber }
 
-// content is a node as something that can be held against others: as an array its list can be, too.
-type content struct {
+// Content is a node as something that can be held against others: as an array its list can be, too.
+type Content struct {
 	kind, level, a, b, c, count int
 	list                        [maxList]int
 }
 
-// contentOf tells what is in a node whose list is not too long.
-func contentOf(n *api.Node) content {
-	c := content{kind: n.Kind, level: n.Level, a: n.A, b: n.B, c: n.C, count: len(n.List)}
+// ContentOf tells what is in a node whose list is not too long.
+func ContentOf(n *api.Node) Content {
+	c := Content{kind: n.Kind, level: n.Level, a: n.A, b: n.B, c: n.C, count: len(n.List)}
 	copy(c.list[:], n.List)
 	return c
 }
 
 // firstSame tells the first node that is the same as one ahead of it; -1: there is none.
 func firstSame(nodes []api.Node) int {
-	seen := once.None[content]()
+	seen := once.None[Content]()
 	for i := range nodes {
-		if _, isNew := seen.Number(contentOf(&nodes[i])); !isNew {
+		if _, isNew := seen.Number(ContentOf(&nodes[i])); !isNew {
 			return i
 		}
 	}
